@@ -1,0 +1,1 @@
+"""Flipped points: whether a train whose points turn under it arrives."""
