@@ -1,0 +1,172 @@
+"""Rules of the language subset that a look at the code can tell; and where the interface's names are defined."""
+
+import ast
+import builtins
+import importlib
+import pathlib
+import re
+import unittest
+
+FOLDER = pathlib.Path(__file__).resolve().parent.parent / "flippedpoints"
+TREES = {path.stem: ast.parse(path.read_text(encoding="ascii")) for path in sorted(FOLDER.glob("*.py"))}
+TEXTS = {path.stem: path.read_text(encoding="ascii") for path in sorted(FOLDER.glob("*.py"))}
+
+INTERFACE = {
+    "basics": "is_integer is_count is_number",
+    "nets": "Net track_at point_of target_of is_setting first_setting many_settings last_exits leads_to is_leading renumbered",
+    "readers": "net_text net_of setting_text setting_of",
+    "machine": "is_state stepped ran gone_tracks run_visits is_run",
+    "crowds": "is_crowd crowd_of is_empty moves moved by_sequence finished visits_by all_behind all_finished",
+    "visits": "gone behind arriving come is_flow has_ring ring_of_visits less_ring",
+    "least": "least_flow flows_below is_least_flow reduced met joined",
+}
+# An interactive example leaves a `_` among Python's own names.
+TAKEN = set(dir(builtins)) - {"_"}
+BUILTINS = set("""len range enumerate zip min max sum abs sorted reversed int str bool list tuple dict set isinstance ord repr
+    any all divmod property Exception ValueError LookupError ArithmeticError RuntimeError""".split())
+METHODS = set("""append clear copy count endswith extend find get index insert isdigit items join keys lower lstrip partition
+    pop remove replace reverse rfind rpartition rstrip setdefault split splitlines startswith strip update upper values""".split())
+NODES = """Module FunctionDef ClassDef Return Assign AugAssign For While If Raise Expr Continue Break Pass ImportFrom alias
+    arguments arg BoolOp BinOp UnaryOp IfExp Dict ListComp DictComp comprehension Compare Call Attribute Subscript Starred
+    Name List Tuple Slice Constant Load Store And Or Add Sub Mult FloorDiv Mod Pow Not USub Eq NotEq Lt LtE Gt GtE Is IsNot
+    In NotIn""".split()
+BARRED = """type typing enum Enum Flag Generic Protocol ABC namedtuple dataclass overload contextmanager register mro elements
+    open input law exit eval exec globals locals vars dir id help compile super getattr setattr hasattr delattr""".split()
+
+
+def walk(kind):
+    return [(name, node) for name, tree in TREES.items() for node in ast.walk(tree) if isinstance(node, kind)]
+
+
+def bound_names(function):
+    """Parameters and local variables of a function."""
+    names = [arg.arg for node in ast.walk(function) if isinstance(node, ast.arguments) for arg in node.args]
+    return names + [node.id for node in ast.walk(function) if isinstance(node, ast.Name) and isinstance(node.ctx, ast.Store)]
+
+
+class LanguageTests(unittest.TestCase):
+
+    def test_files_and_sizes(self):
+        for path in FOLDER.iterdir():
+            if path.name != "__pycache__":
+                self.assertRegex(path.name, r"^[a-z_]+\.py$")
+        for name, text in TEXTS.items():
+            lines = text.split("\n")
+            self.assertLessEqual(len(lines), 399, name)
+            self.assertFalse([line for line in lines if len(line) > 120 or "\t" in line], name)
+            self.assertTrue(text.endswith("\n") and re.fullmatch("[ -~\n]*", text), name)
+        for name, node in walk(ast.FunctionDef):
+            self.assertLessEqual(node.end_lineno - node.lineno + 1, 40, (name, node.name))
+
+    def test_only_plain_parts_of_the_language(self):
+        for name, node in walk(ast.AST):
+            self.assertIn(node.__class__.__name__, NODES, (name, getattr(node, "lineno", None)))
+
+    def test_constants(self):
+        for name, node in walk(ast.Constant):
+            self.assertIn(node.value.__class__, (int, str, bool, None.__class__), (name, node.lineno))
+            if isinstance(node.value, str):
+                self.assertFalse("%" in node.value or node.value.endswith("._"), (name, node.lineno))
+        for name, node in walk(ast.BinOp):
+            if isinstance(node.op, ast.Pow):
+                self.assertTrue(isinstance(node.right, ast.Constant) and 0 <= node.right.value <= 64, (name, node.lineno))
+
+    def test_decorators_are_properties(self):
+        for name, node in walk((ast.FunctionDef, ast.ClassDef)):
+            self.assertIn([ast.unparse(one) for one in node.decorator_list], ([], ["property"]), (name, node.name))
+            if isinstance(node, ast.ClassDef):
+                methods = [part.name for part in node.body if isinstance(part, ast.FunctionDef)]
+                special = [method for method in methods if method.startswith("__")]
+                self.assertTrue(set(special) <= {"__init__", "__eq__"}, (name, node.name))
+                self.assertEqual(len(methods), len(set(methods)))
+            else:
+                nested = [part for part in ast.walk(node) if isinstance(part, ast.FunctionDef) and part is not node]
+                self.assertEqual(nested, [], (name, node.name))
+
+    def test_module_level(self):
+        for name, tree in TREES.items():
+            names, imports_over = [], False
+            for at, part in enumerate(tree.body):
+                if isinstance(part, ast.ImportFrom):
+                    self.assertFalse(imports_over, (name, part.lineno))
+                    names += [alias.name for alias in part.names]
+                elif at == 0:
+                    self.assertTrue(isinstance(part, ast.Expr) and isinstance(part.value, ast.Constant), name)
+                else:
+                    imports_over = True
+                    self.assertIsInstance(part, (ast.FunctionDef, ast.ClassDef, ast.Assign), (name, part.lineno))
+                    if isinstance(part, ast.Assign):
+                        ast.literal_eval(part.value)
+                        names += [target.id for target in part.targets]
+                    else:
+                        names.append(part.name)
+            self.assertEqual(len(names), len(set(names)), name)
+            self.assertFalse([one for one in names if one in TAKEN], name)
+
+    def test_imports(self):
+        graph = {}
+        for name, node in walk(ast.ImportFrom):
+            package, _, source = node.module.partition(".")
+            self.assertEqual([package, node.level, source in TREES], ["flippedpoints", 0, True], (name, node.lineno))
+            graph.setdefault(name, set()).add(source)
+            for alias in node.names:
+                self.assertIsNone(alias.asname)
+                self.assertIn(alias.name, self.defined(source), (name, node.lineno))
+                used = [part for part in ast.walk(TREES[name]) if isinstance(part, ast.Name) and part.id == alias.name]
+                self.assertTrue(used, (name, alias.name))
+        ranks = {}
+        while len(ranks) < len(TREES):
+            ready = [name for name in TREES if name not in ranks and graph.get(name, set()) <= set(ranks)]
+            self.assertTrue(ready, "files import from each other")
+            ranks.update({name: True for name in ready})
+
+    def defined(self, name):
+        parts = TREES[name].body
+        return [part.name for part in parts if isinstance(part, (ast.FunctionDef, ast.ClassDef))] + [
+            target.id for part in parts if isinstance(part, ast.Assign) for target in part.targets]
+
+    def test_names(self):
+        for name, tree in TREES.items():
+            imported = [alias.name for part in tree.body if isinstance(part, ast.ImportFrom) for alias in part.names]
+            own = self.defined(name)
+            for function in [node for node in ast.walk(tree) if isinstance(node, ast.FunctionDef)]:
+                local = bound_names(function)
+                taken = set(imported) | set(own) | TAKEN
+                self.assertFalse([one for one in local if one in taken], (name, function.name))
+                used = [node.id for node in ast.walk(function) if isinstance(node, ast.Name)]
+                strange = [one for one in used if one not in local + imported + own and one not in BUILTINS]
+                self.assertEqual(strange, [], (name, function.name))
+                read = [node.id for node in ast.walk(function) if isinstance(node, ast.Name) and isinstance(node.ctx, ast.Load)]
+                self.assertNotIn("_", read)
+            words = set(re.findall(r"\w+", re.sub(r'""".*?"""|#.*', "", TEXTS[name], flags=re.S)))
+            self.assertFalse([word for word in BARRED if word in words], name)
+
+    def test_calls(self):
+        classes = [node.name for _, node in walk(ast.ClassDef)]
+        own = [part.name for _, node in walk(ast.ClassDef) for part in node.body if isinstance(part, ast.FunctionDef)]
+        for name, node in walk(ast.Call):
+            place = (name, node.lineno)
+            self.assertEqual(node.keywords, [], place)
+            self.assertFalse([part for part in node.args if isinstance(part, ast.Starred)], place)
+            if isinstance(node.func, ast.Attribute):
+                self.assertIn(node.func.attr, METHODS | set(own), place)
+        for name, node in walk(ast.Raise):
+            self.assertTrue(isinstance(node.exc, ast.Call) and node.exc.func.id in classes, (name, node.lineno))
+            self.assertIsNone(node.cause)
+
+
+class InterfaceTests(unittest.TestCase):
+
+    def test_each_name_is_defined_in_its_file(self):
+        for name, listed in INTERFACE.items():
+            module = importlib.import_module("flippedpoints." + name)
+            for one in listed.split():
+                self.assertEqual(getattr(module, one).__module__, "flippedpoints." + name)
+
+    def test_methods_stand_in_the_class_itself(self):
+        net = importlib.import_module("flippedpoints.nets").Net
+        self.assertTrue({"__init__", "ends", "points", "many", "exits", "targets", "__eq__"} <= set(vars(net)))
+
+
+if __name__ == "__main__":
+    unittest.main()
