@@ -1,9 +1,9 @@
 """Crowds of trains: their moves, in whatever sequence, and the three rules."""
 
 from flippedpoints.basics import are_numbers, is_row
-from flippedpoints.checks import MOST_STEPS, check_leading, check_most, check_starts
+from flippedpoints.checks import MOST_STEPS, check_leading, check_most, check_trains
 from flippedpoints.errors import BadSequence, InvalidCrowd, InvalidRule, NoTrain, TooMany
-from flippedpoints.nets import check_net, check_point, check_setting, is_point, is_setting
+from flippedpoints.nets import check_net, check_point, is_point, is_setting
 
 RULES = ("least", "greatest", "rounds")
 MOST_CROWDS = 2000
@@ -28,9 +28,7 @@ def _check_crowd(net, crowd):
 
 def crowd_of(net, setting, starts):
     """The crowd of the starts, from the setting."""
-    check_net(net)
-    check_setting(net, setting)
-    check_starts(net, starts)
+    check_trains(net, setting, starts)
     return tuple(starts), tuple(setting), (0,) * net.ends
 
 

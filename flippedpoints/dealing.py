@@ -1,10 +1,10 @@
 """How visits are dealt, without checks: so also for numbers of more than thirty digits, which are no visits."""
 
 
-def deals_of(net, setting):
+def deals_of(rows, setting):
     """For each track a tuple (point, ahead, many, target), by which `times_gone` tells how often it is gone."""
     deals = []
-    for point, row in enumerate(net.exits()):
+    for point, row in enumerate(rows):
         for spot, target in enumerate(row):
             turns = (spot - setting[point]) % len(row)
             deals.append((point, len(row) - 1 - turns, len(row), target))
@@ -22,6 +22,15 @@ def arrivals(deals, starts, visits):
     for point, ahead, many, target in deals:
         if target >= 0:
             found[target] += (visits[point] + ahead) // many
+    return found
+
+
+def come_to_ends(deals, ends, visits):
+    """How many have come to each of so many ends."""
+    found = [0] * ends
+    for point, ahead, many, target in deals:
+        if target < 0:
+            found[-1 - target] += (visits[point] + ahead) // many
     return found
 
 

@@ -1,21 +1,14 @@
 """Least flows: by rounds, by taking back rings, and those between two flows."""
 
-from flippedpoints.checks import check_leading, check_most, check_starts, check_visits
+from flippedpoints.checks import check_leading, check_most, check_trains, check_visits
 from flippedpoints.dealing import arrivals, deals_of, found_ring, less_once
 from flippedpoints.errors import NotFlow, TooMany
-from flippedpoints.nets import check_net, check_setting
 from flippedpoints.visits import has_ring, is_flow
 
 MOST_ROUNDS = 20000
 MOST_TRIES = 50000
 MOST_VISITS = 20000
 MOST_BELOW = 12
-
-
-def _check_starts_from(net, setting, starts):
-    check_net(net)
-    check_setting(net, setting)
-    check_starts(net, starts)
 
 
 def _check_flow(net, setting, starts, visits):
@@ -25,7 +18,7 @@ def _check_flow(net, setting, starts, visits):
 
 def _flow_from(net, setting, starts, first):
     """The flow to which rounds come that begin with these visits."""
-    deals = deals_of(net, setting)
+    deals = deals_of(net.exits(), setting)
     now = first
     later = arrivals(deals, starts, now)
     rounds = 0
@@ -40,16 +33,16 @@ def _flow_from(net, setting, starts, first):
 
 def least_flow(net, setting, starts):
     """The least flow of a leading net."""
-    _check_starts_from(net, setting, starts)
+    check_trains(net, setting, starts)
     check_leading(net)
     return _flow_from(net, setting, starts, [0] * net.points)
 
 
 def flows_below(net, setting, starts, most):
     """The sorted list of all flows that have no number above most."""
-    _check_starts_from(net, setting, starts)
+    check_trains(net, setting, starts)
     check_most(most, MOST_BELOW)
-    deals = deals_of(net, setting)
+    deals = deals_of(net.exits(), setting)
     return [visits for visits in _rows_to(most, net.points) if arrivals(deals, starts, visits) == visits]
 
 
@@ -73,7 +66,7 @@ def is_least_flow(net, setting, starts, value):
 
 def reduced(net, setting, starts, visits):
     """The least flow, out of any flow, by taking back rings."""
-    _check_starts_from(net, setting, starts)
+    check_trains(net, setting, starts)
     check_visits(net, visits)
     _check_flow(net, setting, starts, visits)
     rows = net.exits()
@@ -90,7 +83,7 @@ def reduced(net, setting, starts, visits):
 
 
 def _check_both(net, setting, starts, visits, others):
-    _check_starts_from(net, setting, starts)
+    check_trains(net, setting, starts)
     check_visits(net, visits)
     check_visits(net, others)
     check_leading(net)

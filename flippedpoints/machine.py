@@ -1,9 +1,9 @@
 """The plain machine: states, steps and runs of one train, step by step."""
 
 from flippedpoints.basics import is_integer, is_row
-from flippedpoints.checks import MOST_STEPS, check_most
+from flippedpoints.checks import MOST_STEPS, check_most, check_train
 from flippedpoints.errors import Ended, InvalidState
-from flippedpoints.nets import check_net, check_point, check_setting, is_setting, is_target, point_of
+from flippedpoints.nets import check_net, is_setting, is_target, point_of
 
 
 def is_state(net, value):
@@ -43,9 +43,7 @@ def _follow(net, setting, begin, most):
 
 
 def _check_run(net, setting, begin, most):
-    check_net(net)
-    check_setting(net, setting)
-    check_point(net, begin)
+    check_train(net, setting, begin)
     check_most(most, MOST_STEPS)
 
 
@@ -76,9 +74,7 @@ def run_visits(net, setting, begin, most):
 
 def is_run(net, setting, begin, value):
     """Whether any value is a list of tracks that are gone one behind another from the first step of the run on."""
-    check_net(net)
-    check_setting(net, setting)
-    check_point(net, begin)
+    check_train(net, setting, begin)
     # True equals 1, so kinds are looked at ahead of the comparison.
     if not is_row(value) or not all([is_integer(track) for track in value]):
         return False

@@ -78,6 +78,13 @@ def is_target(net, value):
     return _is_target_of(value, net.ends, net.points)
 
 
+def is_lot(net, value):
+    """Whether any value is a rising list of points of the net, perhaps of none."""
+    if not is_row(value) or not all([is_point(net, point) for point in value]):
+        return False
+    return all([value[at] < value[at + 1] for at in range(len(value) - 1)])
+
+
 def check_net(net):
     """Raise InvalidNet unless it is a Net."""
     if not isinstance(net, Net):
@@ -178,11 +185,15 @@ def leads_to(net, target):
     return _points_to(net, [target])
 
 
+def points_to_ends(net):
+    """The rising list of the points from which some row of tracks leads to some end."""
+    return _points_to(net, [-1 - end for end in range(net.ends)])
+
+
 def is_leading(net):
     """Whether from each point some row of tracks leads to some end."""
     check_net(net)
-    ends = [-1 - end for end in range(net.ends)]
-    return len(_points_to(net, ends)) == net.points
+    return len(points_to_ends(net)) == net.points
 
 
 def _is_sequence(net, value):

@@ -1,8 +1,9 @@
 """Visits from a setting: how they are dealt to tracks, which are flows, and their rings."""
 
 from flippedpoints.basics import are_numbers, is_row
-from flippedpoints.checks import check_starts, check_visits
-from flippedpoints.dealing import arrivals, deals_of, found_ring, last_targets, less_once, setting_behind, times_gone
+from flippedpoints.checks import check_trains, check_visits
+from flippedpoints.dealing import arrivals, come_to_ends, deals_of, found_ring
+from flippedpoints.dealing import last_targets, less_once, setting_behind, times_gone
 from flippedpoints.errors import InvalidRing
 from flippedpoints.nets import check_net, check_setting, is_point
 
@@ -16,7 +17,7 @@ def _check_visits_from(net, setting, visits):
 def gone(net, setting, visits):
     """How often each track is gone."""
     _check_visits_from(net, setting, visits)
-    return times_gone(deals_of(net, setting), visits)
+    return times_gone(deals_of(net.exits(), setting), visits)
 
 
 def behind(net, setting, visits):
@@ -27,31 +28,23 @@ def behind(net, setting, visits):
 
 def arriving(net, setting, starts, visits):
     """How many arrive at each point."""
-    check_net(net)
-    check_setting(net, setting)
-    check_starts(net, starts)
+    check_trains(net, setting, starts)
     check_visits(net, visits)
-    return arrivals(deals_of(net, setting), starts, visits)
+    return arrivals(deals_of(net.exits(), setting), starts, visits)
 
 
 def come(net, setting, visits):
     """How many have come to each end."""
     _check_visits_from(net, setting, visits)
-    found = [0] * net.ends
-    for target, many in zip(net.targets(), times_gone(deals_of(net, setting), visits)):
-        if target < 0:
-            found[-1 - target] += many
-    return found
+    return come_to_ends(deals_of(net.exits(), setting), net.ends, visits)
 
 
 def is_flow(net, setting, starts, value):
     """Whether any value is a flow for the starts, from the setting."""
-    check_net(net)
-    check_setting(net, setting)
-    check_starts(net, starts)
+    check_trains(net, setting, starts)
     if not are_numbers(value, net.points):
         return False
-    return arrivals(deals_of(net, setting), starts, value) == list(value)
+    return arrivals(deals_of(net.exits(), setting), starts, value) == list(value)
 
 
 def has_ring(net, setting, visits):

@@ -248,3 +248,119 @@ def random_nets(seed, many, points=4, exits=3, ends=2, leading=None):
         if leading is None or plain_is_leading(last, rows) == leading:
             found.append((Net(last, rows), [chance.randrange(len(row)) for row in rows]))
     return found
+
+
+def wrong_lots(points):
+    """Wrong values for a rising list of points, of a net with two points or more."""
+    rows = [[0, 0], [1, 0], [1, 1], [points], [0, points], [-1], [-1, 0], [HUGE], [-HUGE], [True], [False], [0, True], [False, 1],
+            [None], ["0"], [[0]], [(0,)], [{}], [b"0"], [PAIR], list(range(points + 1)), list(range(points)) + [0], [0, 1, 0]]
+    made = [make(row) for row in rows for make in (list, tuple)]
+    return made + strange_but(list, tuple) + [{0}, {0: 1}, "01", range(1), iter([0]), [[], 0], [0, []]]
+
+
+def wrong_times():
+    return STRANGE + LISTS + [PAIR, -1, HUGE, HUGE + 1, -HUGE]
+
+
+def plain_rings(exits):
+    """The sets of points of all rings of tracks that go through no point twice."""
+    found = set()
+
+    def go(begin, way):
+        for target in exits[way[-1]]:
+            if target == begin:
+                found.add(frozenset(way))
+            elif target > begin and target not in way:
+                go(begin, way + [target])
+
+    for begin in range(len(exits)):
+        go(begin, [begin])
+    return found
+
+
+def plain_is_cut(exits, lot):
+    return all(ring & set(lot) for ring in plain_rings(exits))
+
+
+def far_gone(exits, setting, visits):
+    """How often each track is gone, by whole turns and what is left beside them."""
+    told = []
+    for row, spot, many in zip(exits, setting, visits):
+        whole, rest = divmod(many, len(row))
+        extra = [(spot + at) % len(row) for at in range(rest)]
+        told += [whole + (at in extra) for at in range(len(row))]
+    return told
+
+
+def far_come(ends, exits, setting, visits):
+    """How many have come to each end."""
+    come = [0] * ends
+    for target, many in zip([target for row in exits for target in row], far_gone(exits, setting, visits)):
+        if target < 0:
+            come[-1 - target] += many
+    return come
+
+
+def far_is_least(exits, setting, starts, visits):
+    """Whether visits of any size are a flow whose last exits make no ring."""
+    found = list(starts)
+    for target, many in zip([target for row in exits for target in row], far_gone(exits, setting, visits)):
+        if target >= 0:
+            found[target] += many
+    if found != list(visits):
+        return False
+    lasts = [row[(spot + many - 1) % len(row)] for row, spot, many in zip(exits, setting, visits)]
+    for begin in range(len(exits)):
+        point, steps = begin, 0
+        while point >= 0 and visits[point] > 0 and steps <= len(exits):
+            point, steps = lasts[point], steps + 1
+        if steps > len(exits):
+            return False
+    return True
+
+
+def one_at(points, begin):
+    return [int(point == begin) for point in range(points)]
+
+
+def big_net(seed, points=24, tracks=60, ends=2, reach=None):
+    """A leading net of so many points and tracks, and a setting; most targets within reach of their points, if this is told."""
+    chance = random.Random(seed)
+    sizes = [1] * points
+    while sum(sizes) < tracks:
+        at = chance.randrange(points)
+        sizes[at] += sizes[at] < 6
+    rows = []
+    for point, size in enumerate(sizes):
+        least, most = (-ends, points - 1) if reach is None else (point - reach, point + reach)
+        rows.append([max(-ends, min(points - 1, chance.randint(least, most))) for _ in range(size)])
+    found = []
+    while len(found) < points:
+        found = [point for point in range(points) if any(plain_leads(rows, point, -1 - end) for end in range(ends))]
+        lost = [point for point in range(points) if point not in found]
+        if lost:
+            row = rows[chance.choice(lost)]
+            row[chance.randrange(len(row))] = chance.choice(found + [-1])
+    return Net(ends, rows), [chance.randrange(size) for size in sizes]
+
+
+def plain_entered(exits, setting, begin, lost):
+    """Where a train comes first, an end or one of the lost points, and how often it left each point till then."""
+    marks, visits, where = list(setting), [0] * len(exits), begin
+    while where >= 0 and where not in lost:
+        visits[where] += 1
+        spot = marks[where]
+        marks[where] = (spot + 1) % len(exits[where])
+        where = exits[where][spot]
+    return where, visits
+
+
+def plain_lost(ends, exits):
+    return [point for point in range(len(exits)) if not any(plain_leads(exits, point, -1 - end) for end in range(ends))]
+
+
+# Half of what leaves a point of these goes on to lost points, in which there are many rings.
+def trapped(ends, points, lost):
+    """A net of so many points, of which the last ones are lost: each of them leads to itself and to the next one."""
+    rows = [[at + 1, -1 - at % ends if ends else points - 1] for at in range(points - lost)]
+    return Net(ends, rows + [[at, max(points - lost, (at + 1) % points)] for at in range(points - lost, points)])

@@ -5,6 +5,7 @@ import pathlib
 import unittest
 
 from flippedpoints.crowds import by_sequence, crowd_of, finished, visits_by
+from flippedpoints.cuts import fewest_cut, sequence_without
 from flippedpoints.machine import gone_tracks, run_visits
 from flippedpoints.nets import Net, last_exits, target_of
 from flippedpoints.visits import behind, gone, has_ring, is_flow
@@ -24,10 +25,10 @@ class WrittenExamples(unittest.TestCase):
         self.assertGreaterEqual(result.attempted, least)
 
     def test_interface(self):
-        self.assert_examples(HERE / "examples.txt", 30)
+        self.assert_examples(HERE / "examples.txt", 45)
 
     def test_readme(self):
-        self.assert_examples(HERE.parent / "README.md", 5)
+        self.assert_examples(HERE.parent / "README.md", 14)
 
 
 class PointExamples(unittest.TestCase):
@@ -41,6 +42,11 @@ class PointExamples(unittest.TestCase):
         self.assertIs(is_flow(OVER, [0, 0], [1, 0], [4, 2]), True)
         self.assertEqual(last_exits(OVER, behind(OVER, [0, 0], [4, 2])), [1, -1])
         self.assertIs(has_ring(OVER, [0, 0], [4, 2]), False)
+
+    def test_a_ring_through_one_point(self):
+        # Of three points, where 0 leads to 1 and 2, 1 to 2 and an end, 2 to 0 and 1 [4a].
+        net = Net(1, [[1, 2], [2, -1], [0, 1]])
+        self.assertEqual([fewest_cut(net), sequence_without(net, [2])], [[2], [0, 1]])
 
     def test_one_train_at_each(self):
         crowd = crowd_of(OVER, [0, 0], [1, 1])

@@ -19,6 +19,10 @@ INTERFACE = {
     "crowds": "is_crowd crowd_of is_empty moves moved by_sequence finished visits_by all_behind all_finished",
     "visits": "gone behind arriving come is_flow has_ring ring_of_visits less_ring",
     "least": "least_flow flows_below is_least_flow reduced met joined",
+    "cuts": "is_cut ring_without is_ring_without sequence_without good_cut fewest_cut",
+    "fast": "fast_flow fast_flow_by long_run sent",
+    "lost": "lost_points is_shut closed entered never_ends lost_by",
+    "papers": "arrive_paper never_paper own_paper crowd_paper",
 }
 # An interactive example leaves a `_` among Python's own names.
 TAKEN = set(dir(builtins)) - {"_"}
@@ -28,7 +32,8 @@ METHODS = set("""append clear copy count endswith extend find get index insert i
     pop remove replace reverse rfind rpartition rstrip setdefault split splitlines startswith strip update upper values""".split())
 NODES = """Module FunctionDef ClassDef Return Assign AugAssign For While If Raise Expr Continue Break Pass ImportFrom alias
     arguments arg BoolOp BinOp UnaryOp IfExp Dict ListComp DictComp comprehension Compare Call Attribute Subscript Starred
-    Name List Tuple Slice Constant Load Store And Or Add Sub Mult FloorDiv Mod Pow Not USub Eq NotEq Lt LtE Gt GtE Is IsNot
+    Name List Tuple Slice Constant Load Store And Or Add Sub Mult FloorDiv Mod Pow LShift RShift BitAnd BitOr Not
+    USub Eq NotEq Lt LtE Gt GtE Is IsNot
     In NotIn""".split()
 BARRED = """type typing enum Enum Flag Generic Protocol ABC namedtuple dataclass overload contextmanager register mro elements
     open input law exit eval exec globals locals vars dir id help compile super getattr setattr hasattr delattr""".split()
