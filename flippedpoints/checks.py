@@ -1,7 +1,8 @@
 """Checks of parameters that several files share."""
 
-from flippedpoints.basics import are_numbers, is_count_below
-from flippedpoints.errors import InvalidEnd, InvalidLot, InvalidMost, InvalidStarts, InvalidVisits, NotLeading
+from flippedpoints.basics import are_numbers, is_count_below, is_number
+from flippedpoints.errors import InvalidEnd, InvalidLot, InvalidMost, InvalidStarts, InvalidTimes, InvalidVisits
+from flippedpoints.errors import NotLeading
 from flippedpoints.nets import check_net, check_point, check_setting, is_leading, is_lot
 
 MOST_STEPS = 100000
@@ -49,6 +50,12 @@ def check_most(most, bound):
     """Raise InvalidMost unless it is a COUNT to the bound."""
     if not is_count_below(most, bound + 1):
         raise InvalidMost(most)
+
+
+def check_times(times):
+    """Raise InvalidTimes unless it is a NUMBER."""
+    if not is_number(times):
+        raise InvalidTimes(times)
 
 
 def check_leading(net):

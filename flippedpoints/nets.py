@@ -8,6 +8,7 @@ MOST_ENDS = 6
 MOST_POINTS = 24
 MOST_EXITS = 6
 MOST_TRACKS = 60
+MOST_SETTINGS = 4096
 
 
 class Net:
@@ -154,6 +155,16 @@ def many_settings(net):
     for row in net.exits():
         many *= len(row)
     return many
+
+
+def all_settings(net):
+    """The sorted list of all settings, if they are few enough."""
+    if many_settings(net) > MOST_SETTINGS:
+        raise TooMany("settings", MOST_SETTINGS)
+    found = [[]]
+    for row in net.exits():
+        found = [setting + [spot] for setting in found for spot in range(len(row))]
+    return found
 
 
 def last_exits(net, setting):

@@ -23,6 +23,10 @@ INTERFACE = {
     "fast": "fast_flow fast_flow_by long_run sent",
     "lost": "lost_points is_shut closed entered never_ends lost_by",
     "papers": "arrive_paper never_paper own_paper crowd_paper",
+    "judges": "is_arrive_paper is_never_paper is_own_paper is_crowd_paper",
+    "shares": "expected share is_share is_expected tilt tilts come_by_tilt come_bounds",
+    "trees": "is_tree all_trees many_trees period sent_times sent_back tree_behind",
+    "rounds": "is_round_net is_ring_state turns turn_visits turn_length settled ahead all_ring_states",
 }
 # An interactive example leaves a `_` among Python's own names.
 TAKEN = set(dir(builtins)) - {"_"}
@@ -111,6 +115,9 @@ class LanguageTests(unittest.TestCase):
     def test_imports(self):
         graph = {}
         for name, node in walk(ast.ImportFrom):
+            if node.module == "math":
+                self.assertTrue({alias.name for alias in node.names} <= {"gcd", "lcm"}, name)
+                continue
             package, _, source = node.module.partition(".")
             self.assertEqual([package, node.level, source in TREES], ["flippedpoints", 0, True], (name, node.lineno))
             graph.setdefault(name, set()).add(source)
