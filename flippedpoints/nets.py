@@ -104,7 +104,8 @@ def check_point(net, point):
         raise InvalidPoint(point)
 
 
-def _check_track(net, track):
+def check_track(net, track):
+    """Raise InvalidTrack unless it is the number of one of the net's tracks."""
     if not is_count_below(track, net.many):
         raise InvalidTrack(track)
 
@@ -122,7 +123,7 @@ def track_at(net, point, spot):
 def point_of(net, track):
     """The point whose exit the track is."""
     check_net(net)
-    _check_track(net, track)
+    check_track(net, track)
     owners = [point for point, row in enumerate(net.exits()) for _ in row]
     return owners[track]
 
@@ -130,7 +131,7 @@ def point_of(net, track):
 def target_of(net, track):
     """Where the track leads."""
     check_net(net)
-    _check_track(net, track)
+    check_track(net, track)
     return net.targets()[track]
 
 
@@ -157,10 +158,15 @@ def many_settings(net):
     return many
 
 
-def all_settings(net):
-    """The sorted list of all settings, if they are few enough."""
+def check_few_settings(net):
+    """Raise TooMany if the net has too many settings for looking at all of them."""
     if many_settings(net) > MOST_SETTINGS:
         raise TooMany("settings", MOST_SETTINGS)
+
+
+def all_settings(net):
+    """The sorted list of all settings, if they are few enough."""
+    check_few_settings(net)
     found = [[]]
     for row in net.exits():
         found = [setting + [spot] for setting in found for spot in range(len(row))]

@@ -5,6 +5,7 @@ import inspect
 import random
 
 from flippedpoints.nets import Net
+from flippedpoints.pieces import Piece
 
 
 class Oddity:
@@ -28,6 +29,10 @@ def strange_but(*kinds):
 
 def wrong_nets():
     return strange_but(Net) + [PAIR.exits(), (1, PAIR.exits()), Net]
+
+
+def wrong_pieces():
+    return strange_but(Piece) + [PAIR.exits(), (PAIR, [0, 0], [0]), [PAIR, [0, 0], [0]], Piece]
 
 
 def wrong_indexes(bound):
@@ -143,11 +148,13 @@ class CallTests:
 
 
 def kinds_of(value):
-    """The kinds of a value and of what is in it; for a Net its parts, too."""
+    """The kinds of a value and of what is in it; for a Net and a Piece their parts, too."""
     if isinstance(value, (list, tuple)):
         return [value.__class__] + [kinds_of(part) for part in value]
     if isinstance(value, Net):
         return [Net, value.ends, value.exits(), value.targets()]
+    if isinstance(value, Piece):
+        return [Piece, kinds_of(value.net()), value.setting(), value.entrances()]
     return value.__class__
 
 

@@ -25,10 +25,10 @@ class WrittenExamples(unittest.TestCase):
         self.assertGreaterEqual(result.attempted, least)
 
     def test_interface(self):
-        self.assert_examples(HERE / "examples.txt", 60)
+        self.assert_examples(HERE / "examples.txt", 82)
 
     def test_readme(self):
-        self.assert_examples(HERE.parent / "README.md", 24)
+        self.assert_examples(HERE.parent / "README.md", 47)
 
 
 class PointExamples(unittest.TestCase):

@@ -27,6 +27,14 @@ INTERFACE = {
     "shares": "expected share is_share is_expected tilt tilts come_by_tilt come_bounds",
     "trees": "is_tree all_trees many_trees period sent_times sent_back tree_behind",
     "rounds": "is_round_net is_ring_state turns turn_visits turn_length settled ahead all_ring_states",
+    "timetable": "passed passed_within passing_time last_passed where_at track_gone_at",
+    "pieces": "Piece alike parting",
+    "plugging": "plugged looped",
+    "mends": "by_settings longest fewest_turned swapped_exits better_swaps",
+}
+METHODS_LISTED = {
+    "nets.Net": "__init__ ends points many exits targets __eq__",
+    "pieces.Piece": "__init__ net setting entrances outputs behind __eq__",
 }
 # An interactive example leaves a `_` among Python's own names.
 TAKEN = set(dir(builtins)) - {"_"}
@@ -176,8 +184,10 @@ class InterfaceTests(unittest.TestCase):
                 self.assertEqual(getattr(module, one).__module__, "flippedpoints." + name)
 
     def test_methods_stand_in_the_class_itself(self):
-        net = importlib.import_module("flippedpoints.nets").Net
-        self.assertTrue({"__init__", "ends", "points", "many", "exits", "targets", "__eq__"} <= set(vars(net)))
+        for name, listed in METHODS_LISTED.items():
+            module, _, held = name.partition(".")
+            one = getattr(importlib.import_module("flippedpoints." + module), held)
+            self.assertTrue(set(listed.split()) <= set(vars(one)), name)
 
 
 if __name__ == "__main__":
