@@ -75,18 +75,27 @@ def check_piece(piece):
         raise InvalidPiece(piece)
 
 
-def _passages(piece, other):
-    """What one train makes of each of both pieces."""
-    check_piece(piece)
-    check_piece(other)
-    if len(piece.entrances()) != len(other.entrances()) or piece.net().ends != other.net().ends:
-        raise UnlikeShapes()
-    return [Passage(one.net().exits(), one.entrances()) for one in (piece, other)]
+def have_like_shapes(piece, other):
+    """Whether there are as many entrances and ends."""
+    return len(piece.entrances()) == len(other.entrances()) and piece.net().ends == other.net().ends
+
+
+def passage_of(piece):
+    """What one train makes of the piece; raises TooMany if nothing can be told of it."""
+    return Passage(piece.net().exits(), piece.entrances())
+
+
+def settings_of(piece, other):
+    """The pair of both settings."""
+    return tuple(piece.setting()), tuple(other.setting())
 
 
 def _parted(piece, other):
-    one, two = _passages(piece, other)
-    _, inputs = walked(one, two, (tuple(piece.setting()), tuple(other.setting())), MOST_PAIRS)
+    check_piece(piece)
+    check_piece(other)
+    if not have_like_shapes(piece, other):
+        raise UnlikeShapes()
+    _, inputs = walked(passage_of(piece), passage_of(other), settings_of(piece, other), MOST_PAIRS)
     return inputs
 
 

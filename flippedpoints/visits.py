@@ -62,12 +62,13 @@ def ring_of_visits(net, setting, visits):
 def less_ring(net, setting, visits, ring):
     """The visits less the ring."""
     _check_visits_from(net, setting, visits)
-    if not _is_ring(net, setting, visits, ring):
+    if not is_ring(net, setting, visits, ring):
         raise InvalidRing(ring)
     return less_once(visits, ring)
 
 
-def _is_ring(net, setting, visits, value):
+def is_ring(net, setting, visits, value):
+    """Whether any value is a ring of the visits."""
     if not is_row(value) or len(value) == 0 or not all([is_point(net, point) for point in value]):
         return False
     if len(set(value)) < len(value):

@@ -25,10 +25,10 @@ class WrittenExamples(unittest.TestCase):
         self.assertGreaterEqual(result.attempted, least)
 
     def test_interface(self):
-        self.assert_examples(HERE / "examples.txt", 82)
+        self.assert_examples(HERE / "examples.txt", 96)
 
     def test_readme(self):
-        self.assert_examples(HERE.parent / "README.md", 47)
+        self.assert_examples(HERE.parent / "README.md", 61)
 
 
 class PointExamples(unittest.TestCase):

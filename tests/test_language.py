@@ -31,22 +31,31 @@ INTERFACE = {
     "pieces": "Piece alike parting",
     "plugging": "plugged looped",
     "mends": "by_settings longest fewest_turned swapped_exits better_swaps",
+    "texts": "is_of_sort written read",
+    "claims": "words is_claim contrary is_true paper_of is_paper_of",
+    "commands": "is_name is_command is_deed",
+    "desk": "Desk Trial tried",
 }
 METHODS_LISTED = {
     "nets.Net": "__init__ ends points many exits targets __eq__",
     "pieces.Piece": "__init__ net setting entrances outputs behind __eq__",
+    "desk.Desk": "__init__ names labels __len__ __getitem__ __contains__ claim_of do __call__ do_all attempt attach fits lines copy again",
+    "desk.Trial": "__init__ __enter__ __exit__",
 }
 # An interactive example leaves a `_` among Python's own names.
 TAKEN = set(dir(builtins)) - {"_"}
 BUILTINS = set("""len range enumerate zip min max sum abs sorted reversed int str bool list tuple dict set isinstance ord repr
-    any all divmod property Exception ValueError LookupError ArithmeticError RuntimeError""".split())
+    any all divmod property classmethod Exception ValueError LookupError ArithmeticError RuntimeError TypeError""".split())
 METHODS = set("""append clear copy count endswith extend find get index insert isdigit items join keys lower lstrip partition
     pop remove replace reverse rfind rpartition rstrip setdefault split splitlines startswith strip update upper values""".split())
 NODES = """Module FunctionDef ClassDef Return Assign AugAssign For While If Raise Expr Continue Break Pass ImportFrom alias
     arguments arg BoolOp BinOp UnaryOp IfExp Dict ListComp DictComp comprehension Compare Call Attribute Subscript Starred
     Name List Tuple Slice Constant Load Store And Or Add Sub Mult FloorDiv Mod Pow LShift RShift BitAnd BitOr Not
     USub Eq NotEq Lt LtE Gt GtE Is IsNot
-    In NotIn""".split()
+    In NotIn Delete Del Try ExceptHandler With withitem JoinedStr FormattedValue""".split()
+SPECIAL = "__init__ __eq__ __len__ __contains__ __getitem__ __iter__ __call__ __enter__ __exit__".split()
+# Names that stand for something else in what looks at the package.
+KEPT_FREE = "_cold _tuplegetter _outside _record _written_out _member_names _wall _WallAttr".split()
 BARRED = """type typing enum Enum Flag Generic Protocol ABC namedtuple dataclass overload contextmanager register mro elements
     open input law exit eval exec globals locals vars dir id help compile super getattr setattr hasattr delattr""".split()
 
@@ -57,7 +66,9 @@ def walk(kind):
 
 def bound_names(function):
     """Parameters and local variables of a function."""
-    names = [arg.arg for node in ast.walk(function) if isinstance(node, ast.arguments) for arg in node.args]
+    names = [arg.arg for node in ast.walk(function) if isinstance(node, ast.arguments)
+             for arg in node.args + [one for one in (node.vararg,) if one]]
+    names += [node.name for node in ast.walk(function) if isinstance(node, ast.ExceptHandler) and node.name]
     return names + [node.id for node in ast.walk(function) if isinstance(node, ast.Name) and isinstance(node.ctx, ast.Store)]
 
 
@@ -90,11 +101,13 @@ class LanguageTests(unittest.TestCase):
 
     def test_decorators_are_properties(self):
         for name, node in walk((ast.FunctionDef, ast.ClassDef)):
-            self.assertIn([ast.unparse(one) for one in node.decorator_list], ([], ["property"]), (name, node.name))
+            self.assertIn([ast.unparse(one) for one in node.decorator_list], ([], ["property"], ["classmethod"]), (name, node.name))
             if isinstance(node, ast.ClassDef):
                 methods = [part.name for part in node.body if isinstance(part, ast.FunctionDef)]
                 special = [method for method in methods if method.startswith("__")]
-                self.assertTrue(set(special) <= {"__init__", "__eq__"}, (name, node.name))
+                self.assertTrue(set(special) <= set(SPECIAL), (name, node.name))
+                if "__getitem__" in special:
+                    self.assertIn("__iter__", special)
                 self.assertEqual(len(methods), len(set(methods)))
             else:
                 nested = [part for part in ast.walk(node) if isinstance(part, ast.FunctionDef) and part is not node]
@@ -160,6 +173,8 @@ class LanguageTests(unittest.TestCase):
                 self.assertNotIn("_", read)
             words = set(re.findall(r"\w+", re.sub(r'""".*?"""|#.*', "", TEXTS[name], flags=re.S)))
             self.assertFalse([word for word in BARRED if word in words], name)
+            every = set(re.findall(r"\w+", TEXTS[name]))
+            self.assertFalse([word for word in every if word in KEPT_FREE or re.match("_(wall|pe_|dcw_|enum_|cm_|law_|sre)", word)], name)
 
     def test_calls(self):
         classes = [node.name for _, node in walk(ast.ClassDef)]
@@ -167,12 +182,16 @@ class LanguageTests(unittest.TestCase):
         for name, node in walk(ast.Call):
             place = (name, node.lineno)
             self.assertEqual(node.keywords, [], place)
-            self.assertFalse([part for part in node.args if isinstance(part, ast.Starred)], place)
+            starred = [part for part in node.args if isinstance(part, ast.Starred)]
+            self.assertTrue(all(isinstance(part.value, ast.Name) and part is node.args[-1] for part in starred), place)
             if isinstance(node.func, ast.Attribute):
                 self.assertIn(node.func.attr, METHODS | set(own), place)
         for name, node in walk(ast.Raise):
-            self.assertTrue(isinstance(node.exc, ast.Call) and node.exc.func.id in classes, (name, node.lineno))
-            self.assertIsNone(node.cause)
+            self.assertTrue(isinstance(node.exc, ast.Call) and node.exc.func.id in classes + ["TypeError"], (name, node.lineno))
+            self.assertTrue(node.cause is None or isinstance(node.cause, ast.Name), (name, node.lineno))
+        for name, node in walk(ast.ExceptHandler):
+            caught = node.type.elts if isinstance(node.type, ast.Tuple) else [node.type]
+            self.assertTrue(all(isinstance(one, ast.Name) and one.id in classes for one in caught), (name, node.lineno))
 
 
 class InterfaceTests(unittest.TestCase):
