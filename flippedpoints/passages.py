@@ -6,6 +6,8 @@ from flippedpoints.fast import few_points_cut_of, one_train
 from flippedpoints.knots import least_by_cut
 from flippedpoints.nets import MOST_ENDS
 
+FEW_STEPS = 500
+
 
 class Passage:
     """What one train makes of the settings of a piece, each of them looked at once."""
@@ -23,6 +25,19 @@ class Passage:
         return self.known[setting]
 
     def _outcome(self, setting, door):
+        # Most trains are out by few steps, and these are gone faster than a flow is found.
+        marks = list(setting)
+        where = door
+        for _ in range(FEW_STEPS):
+            row = self.rows[where]
+            spot = marks[where]
+            marks[where] = (spot + 1) % len(row)
+            where = row[spot]
+            if where < 0:
+                return -1 - where, tuple(marks)
+        return self._far_outcome(setting, door)
+
+    def _far_outcome(self, setting, door):
         visits = least_by_cut(self.rows, setting, one_train(len(self.rows), door), self.cut)
         come = come_to_ends(deals_of(self.rows, setting), MOST_ENDS, visits)
         return come.index(1), tuple(setting_behind(self.rows, setting, visits))

@@ -234,6 +234,17 @@ class PieceTests(unittest.TestCase):
                          [[MOST], True, True])
 
 
+    def test_alike_by_long_runs(self):
+        # One train takes more than a thousand million steps; the last point lets them out by turns.
+        row = Net(3, [[0, 0, at + 1] for at in range(19)] + [[-1, -2, -3]])
+        for spot in range(3):
+            long = Piece(row, [0] * 19 + [spot], [0])
+            for other in range(3):
+                short = Piece(Net(3, [[-1, -2, -3]]), [other], [0])
+                self.assertEqual([alike(long, short), parting(short, long)], [spot == other, None if spot == other else [1]])
+            self.assertEqual(parting(long, Piece(Net(3, [[-1, -2, -3, -1, -2, -2]]), [spot], [0])), [6 - spot])
+
+
 class AlikeTests(unittest.TestCase):
 
     def assert_parted(self, one, two, most):
