@@ -198,6 +198,13 @@ class ThingTests(unittest.TestCase):
                 self.assert_unread(sort, text, position)
             self.assertEqual(right_position(text), position)
 
+    def test_each_sign_there_is(self):
+        for code in list(range(32, 127)) + [10]:
+            sign = chr(code)
+            for text in (sign, "a" + sign, sign + "a", "1" + sign, sign + "1", "0" + sign, "-" + sign, "[" + sign + "]", "(" + sign + ")",
+                         "[0" + sign + "0]", "[a " + sign + "]", "[a" + sign + "a]", "[]" + sign):
+                self.assert_right("visits", text)
+
     def test_a_sign_turned_left_out_or_put_in(self):
         signs = "[]() -019az~\nA"
         for sort, things in THINGS.items():
